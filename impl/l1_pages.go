@@ -62,6 +62,13 @@ func (p Pages) with(at int, g page) Pages {
 	return Pages{Text: text, Refs: refs}
 }
 
+// textWith returns a text in which the byte at a place that there is is another one.
+func textWith(text string, k int, b int) string {
+	bytes := []byte(text)
+	bytes[k] = byte(b)
+	return string(bytes)
+}
+
 // placesFit reports whether pages may have so many places.
 func placesFit(n int) bool {
 	return n >= 1 && n <= max(FrameMax, SwapMax)
@@ -150,8 +157,6 @@ func PagesSet(p Pages, at int, k int, b int) (Pages, bool) {
 	if !ok || k < 0 || k >= PageSize || b < 0 || b > byteMax {
 		return Pages{}, false
 	}
-	text := []byte(g.text)
-	text[k] = byte(b)
-	g.text = string(text)
+	g.text = textWith(g.text, k, b)
 	return p.with(at, g), true
 }
