@@ -1,6 +1,7 @@
 package tests
 
 import (
+	"slices"
 	"testing"
 
 	"loop.example/quarterdeck/impl"
@@ -130,18 +131,50 @@ func TestBytesSetCases(t *testing.T) {
 	}
 }
 
-// What is in a space that is not live are no pages: they stay as they are, whatever their Group.
-func TestBytesSetLeavesWhatIsNotLive(t *testing.T) {
-	for _, e := range []viewsEdit{
-		func(b *impl.Views) { b.Spaces[1].Live = false },
-		func(b *impl.Views) { b.Spaces[1].Group = b.Spaces[1].Group[:15] },
-		func(b *impl.Views) { b.Spaces[1].Text = b.Spaces[1].Text[:3] },
-		func(b *impl.Views) { b.Spaces[1].Areas[0].From = -1 },
+// Promise 30: which spaces are live tells where one may write, and not whose pages of the same Group get the text.
+func TestBytesSetSetsPagesOfAnySpace(t *testing.T) {
+	told := []viewsEdit{text(0, 4, "Four"), text(2, 4, "Four"), text(3, 4, "Four")}
+	too := append(slices.Clone(told), text(1, 4, "Four"))
+	for _, x := range []struct {
+		name string
+		odd  viewsEdit
+		then []viewsEdit
+	}{
+		{"not told to be live", func(b *impl.Views) { b.Spaces[1].Live = false }, too},
+		{"an area that is none", func(b *impl.Views) { b.Spaces[1].Areas[0].From = -1 }, too},
+		{"areas descending", func(b *impl.Views) { slices.Reverse(b.Spaces[1].Areas) }, too},
+		{"no areas", func(b *impl.Views) { b.Spaces[1].Areas = nil }, too},
+		{"fifteen Groups", func(b *impl.Views) { b.Spaces[1].Group = b.Spaces[1].Group[:15] }, too},
+		{"fifteen texts", func(b *impl.Views) { b.Spaces[1].Text = b.Spaces[1].Text[:15] }, too},
+		{"a text less than Groups", func(b *impl.Views) { b.Spaces[1].Group, b.Spaces[1].Text = b.Spaces[1].Group[:6], b.Spaces[1].Text[:5] }, too},
+		{"a Group less than texts", func(b *impl.Views) { b.Spaces[1].Group, b.Spaces[1].Text = b.Spaces[1].Group[:5], b.Spaces[1].Text[:6] }, too},
+		{"no text of the page", func(b *impl.Views) { b.Spaces[1].Text = b.Spaces[1].Text[:4] }, told},
+		{"no Group of the page", func(b *impl.Views) { b.Spaces[1].Group = b.Spaces[1].Group[:4] }, told},
+		{"no texts", func(b *impl.Views) { b.Spaces[1].Text = nil }, told},
+		{"no Groups", func(b *impl.Views) { b.Spaces[1].Group = nil }, told},
+		{"another Group", groups(1, 6, 4), told},
+		{"no Group", groups(1, 0, 4), told},
+		{"an empty text", text(1, 4, ""), too},
+		{"a text of five bytes, and not told to be live", func(b *impl.Views) { b.Spaces[1].Live, b.Spaces[1].Text[4] = false, "abcde" }, too},
+		{"seventeen of both", func(b *impl.Views) {
+			b.Spaces[1].Group, b.Spaces[1].Text = append(b.Spaces[1].Group, 5), append(b.Spaces[1].Text, "more")
+		}, append(slices.Clone(too), text(1, 16, "Four"))},
 	} {
-		b := changed(fiveBytes(), bytesSpace(1, fiveBytes().Spaces[0]), e)
+		b := changed(fiveBytes(), bytesSpace(1, fiveBytes().Spaces[0]), x.odd)
 		got, code := impl.BytesSet(b, 0, 16, 'F')
-		wantViewsCode(t, "BytesSet beside a space that is not live", got, code, changed(b, text(0, 4, "Four"), text(2, 4, "Four"), text(3, 4, "Four")), impl.MemFine)
+		wantViewsCode(t, "BytesSet beside a space with "+x.name, got, code, changed(b, x.then...), impl.MemFine)
 	}
+}
+
+// Promise 30, with two spaces of which the second one is not live, for an area that has no page.
+func TestBytesSetSetsPagesOfASpaceWithABadArea(t *testing.T) {
+	first := bytesOf([]impl.Area{shared(0, 1)}, map[int]int{0: 1}, nil)
+	second := bytesOf([]impl.Area{readShared(1, 0)}, map[int]int{0: 1}, map[int]string{0: zeroBytes})
+	b := impl.Views{Spaces: []impl.BytesOf{first, second}}
+	got, code := impl.BytesSet(b, 0, 1, 9)
+	wantViewsCode(t, "BytesSet of two spaces", got, code, changed(b, text(0, 0, "\x00\x09\x00\x00"), text(1, 0, "\x00\x09\x00\x00")), impl.MemFine)
+	got, code = impl.BytesSet(b, 1, 1, 9)
+	wantViewsCode(t, "BytesSet of a space that is not live", got, code, impl.Views{}, impl.MemBad)
 }
 
 // Promise 31, with Groups that are written out.

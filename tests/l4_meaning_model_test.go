@@ -42,13 +42,17 @@ func readBytes(b impl.Views, who, addr int) (int, int) {
 	return int(s.Text[addr/4][addr%4]), impl.MemFine
 }
 
-// inGroup reports whether a page of a live space is the one that is written, or has its Group.
+// inGroup reports whether a page of any space is the one of a live space that is told, or has its Group, and a text.
 func inGroup(b impl.Views, who, page, other, otherPage int) bool {
 	if who == other && page == otherPage {
 		return true
 	}
+	s := b.Spaces[other]
+	if otherPage >= len(s.Group) || otherPage >= len(s.Text) {
+		return false
+	}
 	g := b.Spaces[who].Group[page]
-	return g != 0 && b.Spaces[other].Group[otherPage] == g
+	return g != 0 && s.Group[otherPage] == g
 }
 
 // writeBytes is the meaning and the code that BytesSet has to return.
@@ -68,8 +72,8 @@ func writeBytes(b impl.Views, who, addr, v int) (impl.Views, int) {
 	bytes[addr%4] = byte(v)
 	out := cloneViews(b)
 	for other := range b.Spaces {
-		for p := range 16 {
-			if isLiveBytes(b, other) && inGroup(b, who, page, other, p) {
+		for p := range b.Spaces[other].Text {
+			if inGroup(b, who, page, other, p) {
 				out.Spaces[other].Text[p] = string(bytes)
 			}
 		}

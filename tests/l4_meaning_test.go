@@ -220,7 +220,7 @@ func wantJustGroup(t *testing.T, what string, was, b impl.Views, at bytesPage, k
 	t.Helper()
 	for who, s := range b.Spaces {
 		for page, text := range s.Text {
-			if isLiveBytes(was, who) && inGroup(was, at.who, at.page, who, page) {
+			if inGroup(was, at.who, at.page, who, page) {
 				if text != b.Spaces[at.who].Text[at.page] || int(text[k]) != v {
 					t.Fatalf("%s: page %d of space %d is %q", what, page, who, text)
 				}
